@@ -41,10 +41,10 @@ func values(p api.Page) []int {
 	return slices.Concat([]int{p.Prn, p.T0, p.Err, p.Grow}, p.X[:], p.Y[:], p.Z[:])
 }
 
-// packed returns the data of a page, and whether all its numbers have room.
-func packed(p api.Page) ([]int, bool) {
-	data, f := field.Pack(fields(), values(p), room())
-	return data, f.Err == api.OK
+// packed returns the data of a valid page.
+func packed(p api.Page) []int {
+	data, _ := field.Pack(fields(), values(p), room())
+	return data
 }
 
 // Check returns whether a page is valid.
@@ -52,8 +52,11 @@ func Check(p api.Page) api.Errno {
 	if p.Prn < 1 || !isSecond(p.T0) {
 		return api.ErrRange
 	}
-	if _, ok := packed(p); !ok {
-		return api.ErrRange
+	all := values(p)
+	for i, f := range fields() {
+		if low, high, _ := field.Limits(f); all[i] < low || all[i] > high {
+			return api.ErrRange
+		}
 	}
 	return api.OK
 }
@@ -66,8 +69,7 @@ func Frame(p api.Page, tow int) (api.Frame, api.Errno) {
 	if tow < 0 || tow >= times {
 		return api.Frame{}, api.ErrRange
 	}
-	data, _ := packed(p)
-	return api.Frame{Tow: tow, Kind: kind, Data: data}, api.OK
+	return api.Frame{Tow: tow, Kind: kind, Data: packed(p)}, api.OK
 }
 
 // numbers yields the numbers of data that are bits, one after the other, until one cannot be read.
@@ -101,7 +103,7 @@ func Read(f api.Frame) (api.Page, api.Errno) {
 		}
 	}
 	// What is read is the page only if nothing else than it is in the frame.
-	if data, ok := packed(p); next < len(places) || Check(p) != api.OK || !ok || !slices.Equal(data, f.Data) {
+	if next < len(places) || Check(p) != api.OK || !slices.Equal(packed(p), f.Data) {
 		return api.Page{}, api.ErrForm
 	}
 	return p, api.OK
