@@ -62,7 +62,7 @@ func eliminated(a api.Mat) (rows [][]exact.Int, dens []exact.Int, ok bool) {
 		if rows[k][k].Sign() <= 0 {
 			return nil, nil, false
 		}
-		s.clear(k, k, below(k))
+		s.clear(k, k)
 	}
 	return rows, dens, true
 }

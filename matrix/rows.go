@@ -99,37 +99,28 @@ func (s *system) pivots() iter.Seq2[int, int] {
 	}
 }
 
-// clear makes the entries of the column k 0 in the rows from first on, apart from the row i of the pivot.
-func (s *system) clear(i, k, first int) {
+// clear makes the entries of the column k 0 in the rows below the row i of the pivot.
+func (s *system) clear(i, k int) {
 	base := s.rows[i].entries()
 	pivot := base[k]
-	for j := first; j < len(s.rows); j++ {
-		if j == i {
-			continue
-		}
-		l := s.rows[j].entries()
+	for _, r := range s.rows[i+1:] {
+		l := r.entries()
 		factor := l[k]
-		for c := range l {
+		for c := k; c < len(l); c++ {
 			l[c] = pivot.Mul(l[c]).Sub(factor.Mul(base[c])).Over(s.last)
 		}
 	}
 	s.last = pivot
 }
 
-// below returns from which row on a column is cleared if the rows above the pivot stay as they are.
-func below(i int) int { return i + 1 }
-
-// everywhere returns from which row on a column is cleared in all rows.
-func everywhere(int) int { return 0 }
-
 // determinant eliminates all columns of a square system, and returns the determinant.
-func (s *system) determinant(from func(i int) int) exact.Int {
+func (s *system) determinant() exact.Int {
 	rank := 0
 	for i, k := range s.pivots() {
 		if i != k {
 			break
 		}
-		s.clear(i, k, from(i))
+		s.clear(i, k)
 		rank++
 	}
 	switch {
@@ -139,4 +130,21 @@ func (s *system) determinant(from func(i int) int) exact.Int {
 		return s.last.Neg()
 	}
 	return s.last
+}
+
+// column returns what the column k of the right side is divided by the left side, when all columns of that are eliminated.
+func (s *system) column(k int) ([]api.Rat, api.Errno) {
+	n := len(s.rows)
+	x := make([]api.Rat, n)
+	times := make([]exact.Int, n) // the numbers, times the last pivot
+	for i := n - 1; i >= 0; i-- {
+		l := s.rows[i].entries()
+		rest := s.last.Mul(l[n+k]).Sub(dot(l[i+1:n], times[i+1:]))
+		times[i] = rest.Over(l[i])
+		var e api.Errno
+		if x[i], e = exact.Rat(times[i], s.last); e != api.OK {
+			return nil, e
+		}
+	}
+	return x, api.OK
 }
