@@ -73,6 +73,37 @@ func TestSums(t *testing.T) {
 	}
 }
 
+// P14.6, P14.9: sums of lists, lists behind zeros, and the greatest sums.
+func TestLinear(t *testing.T) {
+	r := rand.New(rand.NewPCG(14, 5))
+	for range 40 {
+		degree, over, prn := []int{5, 6, 7}[r.IntN(3)], 1+r.IntN(4), 1+r.IntN(33)
+		code, _ := cross.Samples(degree, over, prn)
+		a, b := random(r, 3*len(code)), random(r, 3*len(code))
+		both := make([]api.Sample, len(a))
+		for i := range a {
+			a[i] = api.Sample{I: a[i].I / 2, Q: a[i].Q / 2}
+			b[i] = api.Sample{I: b[i].I / 2, Q: b[i].Q / 2}
+			both[i] = api.Sample{I: a[i].I + b[i].I, Q: a[i].Q + b[i].Q}
+		}
+		at, d := r.IntN(2*len(code)), r.IntN(50)
+		x, _ := bank.Sum(a, degree, over, prn, at)
+		y, _ := bank.Sum(b, degree, over, prn, at)
+		z, _ := bank.Sum(both, degree, over, prn, at)
+		later, e := bank.Sum(slices.Concat(make([]api.Sample, d), a), degree, over, prn, at+d)
+		if z != (api.Sample{I: x.I + y.I, Q: x.Q + y.Q}) || later != x || e != api.OK {
+			t.Fatalf("%v and %v are %v together; %d places later %v", x, y, z, d, later)
+		}
+		great := make([]api.Sample, len(code))
+		for i, c := range code {
+			great[i] = api.Sample{I: 127 * c, Q: -127 * c}
+		}
+		if s, _ := bank.Sum(great, degree, over, prn, 0); s != (api.Sample{I: 127 * len(code), Q: -127 * len(code)}) {
+			t.Fatalf("the greatest sum is %v", s)
+		}
+	}
+}
+
 // P14.2: long lists, for which transforms are used.
 func TestLongBank(t *testing.T) {
 	r := rand.New(rand.NewPCG(14, 2))

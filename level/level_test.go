@@ -3,6 +3,7 @@ package level_test
 import (
 	"math/big"
 	"math/rand/v2"
+	"slices"
 	"testing"
 
 	"skyfix/api"
@@ -59,7 +60,7 @@ func ceil(x *big.Rat) int {
 	return int(q.Int64())
 }
 
-// P34.1: budgets and levels by their definitions.
+// P34.1, P34.4, P34.5: budgets and levels by their definitions, with greater bounds, and with another clock.
 func TestLevel(t *testing.T) {
 	r := rand.New(rand.NewPCG(34, 1))
 	for range 40 {
@@ -99,6 +100,14 @@ func TestLevel(t *testing.T) {
 		more := radius + 1000
 		if other, _ := level.Level(l, x, bias, prior, more); min(other[0]-got[0], other[1]-got[1], other[2]-got[2], other[3]-got[3]) < 0 {
 			t.Fatalf("a greater radius lessens %v to %v", got, other)
+		}
+		worse := slices.Clone(l)
+		for i, s := range worse {
+			// The weight depends on the thousands of the error.
+			worse[i].Error += r.IntN(1000 - s.Error%1000)
+		}
+		if other, _ := level.Level(worse, x, bias, prior, radius); min(other[0]-got[0], other[1]-got[1], other[2]-got[2], other[3]-got[3]) < 0 {
+			t.Fatalf("greater errors lessen %v to %v", got, other)
 		}
 		for i := range l {
 			l[i].Range += 54321

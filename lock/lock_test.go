@@ -141,6 +141,45 @@ func TestRun(t *testing.T) {
 	}
 }
 
+// P19.6: a locked channel is at most the reach away from a period, however it moves where nothing claims.
+func TestWithinReach(t *testing.T) {
+	r := rand.New(rand.NewPCG(19, 2))
+	far := 0
+	for range 300 {
+		l, _ := lock.New(1+r.IntN(3), 1+r.IntN(40))
+		over := 1 + r.IntN(8)
+		reach, _ := lock.Reach(l, over)
+		rate := []int{64, -64, r.IntN(129) - 64}[r.IntN(3)]
+		first := r.IntN(100)
+		// The channel is at place; the period k of the emitter begins at floor(k*rate/1024), without the length of the periods.
+		start := func(k int) int {
+			n := k * rate
+			return (n - (n%1024+1024)%1024) / 1024
+		}
+		place := start(first) + r.IntN(2*over-1) - (over - 1)
+		away := 1 - 2*r.IntN(2)
+		for k := first; k < first+200; k++ {
+			off := place - start(k)
+			l, _ = lock.Step(l, max(off, -off) < over && r.IntN(3) > 0)
+			if l.Locked && max(off, -off) > reach {
+				t.Fatalf("a locked channel is %d away, more than %d", off, reach)
+			}
+			if l.Locked {
+				far = max(far, max(off, -off)-over)
+			}
+			switch {
+			case max(off, -off) >= over || r.IntN(4) == 0:
+				place += away
+			case r.IntN(8) == 0:
+				away = -away
+			}
+		}
+	}
+	if far < 5 {
+		t.Errorf("locked channels are at most %d farther away than a chip", far)
+	}
+}
+
 // P19.3: the reach.
 func TestReach(t *testing.T) {
 	for miss := 1; miss <= 100; miss++ {

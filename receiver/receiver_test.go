@@ -29,6 +29,7 @@ type world struct {
 	at         api.Point
 	begin      int
 	satellites []api.Ephemeris
+	delays     map[int]int // where the periods of each code begin
 	raw        []api.Sample
 }
 
@@ -41,6 +42,7 @@ func makeWorld() world {
 		at:    api.Point{X: 6371000000, Y: 1000000, Z: -2000000},
 		begin: 300*2000 - 20,
 	}
+	w.delays = map[int]int{}
 	t0 := w.begin / 1000
 	for i, p := range []api.Point{{X: 25600000000}, {X: 16000000000, Y: 17000000000}, {X: 14000000000, Y: -9000000000, Z: 15000000000}, {X: 15000000000, Y: -8000000000, Z: -16000000000}} {
 		e := api.Ephemeris{Prn: w.plan.Prns[i], Issue: 5 + i, T0: t0, Acc: 100 * i, Clock: [3]int{1024 * (i - 2), 0, 0}, X: [4]int{p.X / 16}, Y: [4]int{p.Y / 16}, Z: [4]int{p.Z / 16}}
@@ -61,6 +63,7 @@ func makeWorld() world {
 			x.Bits = append(x.Bits, bit(e, w.begin-whole+k))
 		}
 		emitters = append(emitters, x)
+		w.delays[e.Prn] = x.Delay
 	}
 	noise := make([]api.Sample, many)
 	for i := range noise {
@@ -113,7 +116,7 @@ func begun(p api.Plan, h api.Hit) api.Track {
 	return t
 }
 
-// P42.3, P42.4: channels, their epochs, streams and frames, by the definitions.
+// P42.3, P42.4, P42.7: channels, their epochs, streams and frames, by the definitions.
 func TestChannels(t *testing.T) {
 	w := made()
 	r := fed(t, w)
@@ -145,6 +148,12 @@ func TestChannels(t *testing.T) {
 		found, _ := frame.All(bits, w.plan.Words)
 		if !reflect.DeepEqual(frames, found) || e != api.OK || len(frames) != 3 {
 			t.Fatalf("code %d: Frames: %d, %v", h.Prn, len(frames), e)
+		}
+		for _, x := range l {
+			off := (x.At - w.delays[h.Prn] + 1022*2000) % 1022
+			if x.Claimed && min(off, 1022-off) >= w.plan.Over {
+				t.Fatalf("code %d: %v is claimed, but %d samples off", h.Prn, x, off)
+			}
 		}
 		checkChannel(t, w, r, h.Prn, l, residue, frames)
 	}

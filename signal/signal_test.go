@@ -192,6 +192,23 @@ func TestBound(t *testing.T) {
 	}
 }
 
+// P12.8: an emitter without a rate repeats its chips.
+func TestRepeats(t *testing.T) {
+	r := rand.New(rand.NewPCG(12, 5))
+	for range 50 {
+		p, l := random(r)
+		e := l[0]
+		e.Rate, e.Step, e.Bits = 0, 0, nil
+		length := (1<<p.Degree - 1) * p.Over
+		n := r.IntN(most) - most/2
+		a, err := signal.At(p, e, n)
+		b, err2 := signal.At(p, e, n+length)
+		if a != b || err != api.OK || err2 != api.OK {
+			t.Fatalf("the samples %d and %d are %v and %v: %v, %v", n, n+length, a, b, err, err2)
+		}
+	}
+}
+
 // P12.1: the errors of plans, in their order.
 func TestCheckPlan(t *testing.T) {
 	for i, x := range []struct {
