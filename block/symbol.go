@@ -26,9 +26,16 @@ func init() {
 	}
 }
 
-// power returns the power of 2 with any exponent.
+// power returns the power of 2 with any exponent. Like logarithm, it has its numbers written out, so that no result depends on what start-up code has filled.
 func power(n int) int {
-	return powers[(n%cycle+cycle)%cycle]
+	all := [cycle]int{1, 2, 4, 8, 3, 6, 12, 11, 5, 10, 7, 14, 15, 13, 9}
+	return all[(n%cycle+cycle)%cycle]
+}
+
+// logarithm returns the exponent of a symbol as a power of 2 (that of 0 is not used).
+func logarithm(a int) int {
+	all := [symbols]int{0, 0, 1, 4, 2, 8, 5, 10, 3, 14, 9, 7, 6, 13, 11, 12}
+	return all[a]
 }
 
 // times returns the product of two symbols.
@@ -36,7 +43,7 @@ func times(a, b int) int {
 	if a == 0 || b == 0 {
 		return 0
 	}
-	return power(logarithms[a] + logarithms[b])
+	return power(logarithm(a) + logarithm(b))
 }
 
 // over returns a/b; b is not 0.
@@ -44,7 +51,7 @@ func over(a, b int) int {
 	if a == 0 {
 		return 0
 	}
-	return power(logarithms[a] - logarithms[b])
+	return power(logarithm(a) - logarithm(b))
 }
 
 // polynomial is a polynomial, its least coefficient first.
